@@ -1,0 +1,18 @@
+"""The numbers that a call answers where it refuses."""
+
+NO_SUCH = -2
+NONE_THERE = -6
+NOT_BEGUN = -11
+TAKEN = -16
+SO_ALREADY = -17
+OUT_OF_RANGE = -22
+TOO_MANY = -28
+LESSER_LICENCE = -61
+FEWER_JUMPS = -62
+TOO_LONG_AGO = -63
+TOO_MUCH_WIND = -64
+NO_GEAR = -65
+NOT_PACKED = -66
+PACK_TOO_OLD = -67
+TOO_MANY_JUMPS = -68
+TOO_HEAVY = -71

@@ -3,7 +3,7 @@
 import unittest
 
 from tests.calls import (back, begin, board, check, days, fly, gear, give, join, jumper, kind, last, off, pack, school,
-                         told, wind)
+                         wind)
 
 LONG_AGO = -63
 WIND = -64

@@ -2,7 +2,7 @@
 
 import unittest
 
-from tests.calls import HUGE, back, begin, board, days, fly, gear, join, jumper, kind, last, off, school, told, wind
+from tests.calls import HUGE, back, board, days, fly, join, last, off, school, told, wind
 
 FOUR = [(0, 0, 80)] * 4
 TWO_KINDS = ((0, 0, 1000), (1, 0, 1000))

@@ -2,7 +2,7 @@
 
 import unittest
 
-from tests.calls import begin, board, check, days, fly, gear, give, jumper, kind, last, pack, school, told, wind
+from tests.calls import begin, board, check, days, fly, give, jumper, kind, last, pack, school, told, wind
 
 
 def flown(times):

@@ -1,7 +1,7 @@
 """The calls on the ground: give, back, pack, check, wind, days."""
 
 from jumpschool.refusals import NO_SUCH, NONE_THERE, OUT_OF_RANGE, SO_ALREADY, TAKEN, TOO_HEAVY
-from jumpschool.rules import group_of, is_worn
+from jumpschool.rules import group_of, is_from_one_to, wearer_of
 
 MOST_WIND = 50
 MOST_DAYS_AT_ONCE = 400
@@ -13,7 +13,7 @@ def give(school, j, g):
     jumper = school.jumpers[j]
     if jumper.wears is not None:
         return [SO_ALREADY]
-    if is_worn(school, g):
+    if wearer_of(school, g) is not None:
         return [TAKEN]
     if jumper.weight > school.gear[g].bears:
         return [TOO_HEAVY]
@@ -63,7 +63,7 @@ def set_wind(school, wind):
 
 
 def let_days_pass(school, days):
-    if days < 1 or days > MOST_DAYS_AT_ONCE:
+    if not is_from_one_to(days, MOST_DAYS_AT_ONCE):
         return [OUT_OF_RANGE]
     school.day = school.day + days
     return [school.day]

@@ -82,4 +82,5 @@ def fly(school):
         for j in group.members:
             count_jump(school, j)
     school.load = []
+    school.loads_flown = school.loads_flown + 1
     return flown

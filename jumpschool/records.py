@@ -50,3 +50,4 @@ class School:
         self.jumpers = []
         self.gear = []
         self.load = []
+        self.loads_flown = 0

@@ -2,6 +2,7 @@
 
 from jumpschool.records import Gear, Jumper, Kind
 from jumpschool.refusals import OUT_OF_RANGE, TOO_MANY
+from jumpschool.rules import MOST_LICENCE, is_from_one_to
 
 MOST_SEATS = 16
 MOST_PACK_DAYS = 400
@@ -9,14 +10,9 @@ MOST_METRES = 2000
 MOST_KINDS = 6
 MOST_JUMPERS = 16
 MOST_GEAR = 12
-MOST_LICENCE = 3
 MOST_JUMPS = 1000
 MOST_DAYS = 1000
 MOST_WEIGHT = 200
-
-
-def is_from_one_to(number, most):
-    return 1 <= number and number <= most
 
 
 def begin(school, seats, pack_days, metres):
